@@ -1,0 +1,1 @@
+"""Pairrules: texts told by rules of two."""
