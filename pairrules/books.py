@@ -52,10 +52,13 @@ def is_symbol(symbol, limit):
     """Whether this is a sign, or a rule's number below the limit."""
     if isinstance(symbol, str):
         return len(symbol) == 1
-    # True and False pass for 1 and 0 in Python, but are no numbers of rules.
-    if isinstance(symbol, bool) or not isinstance(symbol, int):
-        return False
-    return 0 <= symbol < limit
+    return is_whole(symbol) and 0 <= symbol < limit
+
+
+def is_whole(number):
+    """Whether this is a whole number."""
+    # True and False pass for 1 and 0 in Python, but are no numbers here.
+    return isinstance(number, int) and not isinstance(number, bool)
 
 
 def is_sign(symbol):
@@ -80,8 +83,12 @@ def symbol_length(symbol, rule_lengths):
 def length(book):
     """The length of the told text."""
     _, row = need_book(book)
-    rule_lengths = lengths(book)
-    return sum([symbol_length(symbol, rule_lengths) for symbol in row])
+    return symbols_length(row, lengths(book))
+
+
+def symbols_length(symbols, rule_lengths):
+    """How many signs the symbols stand for, one behind the other."""
+    return sum([symbol_length(symbol, rule_lengths) for symbol in symbols])
 
 
 def heights(rules):

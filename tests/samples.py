@@ -80,3 +80,32 @@ def long_texts():
     yield "".join(SIGNS)
     yield "".join(SIGNS * 2)
     yield "0 1 '0' '1' 00 01 10 11\n" * 20
+
+
+def slow_text(rules, symbol):
+    """What the symbol stands for, written out as point 3 tells it."""
+    if isinstance(symbol, str):
+        return symbol
+    return "".join([slow_text(rules, part) for part in rules[symbol]])
+
+
+def book_text(book):
+    """The text that the book tells."""
+    rules, row = book
+    return "".join([slow_text(rules, symbol) for symbol in row])
+
+
+def fibonacci(count):
+    """Rules of which each one stands for the texts of the two before it: ab, aba, abaab .."""
+    return [("a", "b"), (0, "a")] + [(number + 1, number) for number in range(count - 2)]
+
+
+def great_book(rule_count, row_count, signs):
+    """A book of so many rules, most of them of one just before, and symbols, always the same."""
+    chance = random.Random(rule_count * 10000 + row_count)
+    rules = [(signs[0], signs[-1])]
+    for number in range(1, rule_count):
+        late = chance.randrange(max(0, number - 8), number)
+        rules.append(chance.choice([(late, chance.choice(signs)), (chance.choice(signs), late), (late, number - 1)]))
+    choice = list(signs) + list(range(rule_count))
+    return rules, [chance.choice(choice) for _ in range(row_count)]

@@ -5,7 +5,7 @@ import unittest
 
 from pairrules import books
 from pairrules.errors import BookError, NoBook
-from samples import SIGNS, chance_books, doubling, growing, no_books, small_books
+from samples import SIGNS, book_text, chance_books, doubling, growing, no_books, slow_text, small_books
 
 ASKED_OF_BOOKS = [
     books.need_book, books.lengths, books.length, books.depth, books.uses, books.written_out,
@@ -13,12 +13,6 @@ ASKED_OF_BOOKS = [
 
 # The text abcabd, told with a rule for ab and one for abc.
 PLAIN = ([("a", "b"), (0, "c")], [1, 0, "d"])
-
-
-def slow_text(rules, symbol):
-    if isinstance(symbol, str):
-        return symbol
-    return "".join([slow_text(rules, part) for part in rules[symbol]])
 
 
 def slow_height(rules, symbol):
@@ -161,8 +155,8 @@ class TellingTest(unittest.TestCase):
 
     def test_against_the_slow_way(self):
         for book in list(small_books()) + list(chance_books(300)):
-            rules, row = book
-            text = "".join([slow_text(rules, symbol) for symbol in row])
+            rules, _ = book
+            text = book_text(book)
             self.assertEqual(books.written_out(book), text)
             self.assertEqual(books.length(book), len(text))
             self.assertEqual(books.lengths(book), [len(slow_text(rules, at)) for at in range(len(rules))])

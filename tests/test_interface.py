@@ -16,6 +16,9 @@ FUNCTIONS = {
         "uses": ["book"], "written_out": ["book"],
     },
     "pairrules.making": {"made": ["text"]},
+    "pairrules.looking": {"sign_at": ["book", "place"], "cut": ["book", "start", "end"]},
+    "pairrules.searching": {"how_often": ["book", "word"], "first_place": ["book", "word"]},
+    "pairrules.notes": {"shown": ["book"], "read": ["line"]},
 }
 
 REFUSALS = ["NoBook", "NoText", "NoPlace", "NoWord"]
